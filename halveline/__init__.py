@@ -1,0 +1,1 @@
+"""Halveline: one line that halves two heaps of points at once."""

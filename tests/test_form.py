@@ -1,0 +1,91 @@
+"""The package keeps to the part of the language it is written in, as far as its files show it plainly."""
+
+import ast
+import builtins
+import re
+import unittest
+import warnings
+from pathlib import Path
+
+PACKAGE = Path(__file__).resolve().parent.parent / "halveline"
+FILES = sorted(path for path in PACKAGE.rglob("*") if path.is_file() and "__pycache__" not in path.parts)
+
+OWN_NAMES = set(
+    "len range enumerate zip min max sum abs sorted reversed int str bool bytes list tuple dict set isinstance ord "
+    "repr any all divmod Exception ValueError TypeError KeyError IndexError LookupError ZeroDivisionError "
+    "ArithmeticError OverflowError RuntimeError NotImplementedError AttributeError StopIteration".split()
+)
+WORDS = re.compile(
+    r"\b(type|typing|typing_extensions|enum|Enum|IntEnum|StrEnum|Flag|IntFlag|Generic|Protocol|ABC|ABCMeta|namedtuple"
+    r"|NamedTuple|TypedDict|TYPE_CHECKING|abstractmethod)\b|dataclass|overload|contextmanager"
+)
+FORBIDDEN = (
+    ast.GeneratorExp, ast.NamedExpr, ast.With, ast.Match, ast.Global, ast.Nonlocal, ast.Yield, ast.YieldFrom,
+    ast.AsyncFunctionDef, ast.AsyncFor, ast.AsyncWith, ast.Await, ast.Div, ast.MatMult, ast.Import,
+)
+NODES = [node for path in FILES for node in ast.walk(ast.parse(path.read_text(), path.name))]
+METHODS = {"__init__", "__eq__", "__repr__", "__str__", "__len__"}
+
+
+def bound_names(node):
+    """The names that a node of the tree gives a meaning."""
+    if isinstance(node, ast.Name) and isinstance(node.ctx, ast.Store):
+        return [node.id]
+    if isinstance(node, ast.arg):
+        return [node.arg]
+    if isinstance(node, (ast.FunctionDef, ast.ClassDef)):
+        return [node.name]
+    return []
+
+
+class Form(unittest.TestCase):
+    def test_only_plain_files(self):
+        self.assertIn(PACKAGE / "__init__.py", FILES)
+        for path in FILES:
+            self.assertRegex(path.name, r"\A([a-z][a-z0-9_]*|__init__)\.py\Z")
+
+    def test_signs_words_and_sizes(self):
+        for path in FILES:
+            with self.subTest(file=path.name):
+                text = path.read_text()
+                self.assertRegex(text, r"\A[ -~\n]*\Z")
+                self.assertIsNone(WORDS.search(text))
+                self.assertLessEqual(len(text.splitlines()), 400)
+                self.assertLessEqual(max(map(len, text.splitlines())), 120)
+
+    def test_python_reads_it_without_a_warning(self):
+        for path in FILES:
+            with warnings.catch_warnings():
+                warnings.simplefilter("error")
+                compile(path.read_text(), path.name, "exec")
+
+    def test_imports_are_the_packages_own(self):
+        for node in NODES:
+            if isinstance(node, ast.ImportFrom):
+                self.assertEqual((node.level, node.col_offset), (0, 0))
+                package, name = node.module.split(".")
+                self.assertEqual(package, "halveline")
+                self.assertIn(PACKAGE / f"{name}.py", FILES)
+                self.assertNotIn("*", [drawn.name for drawn in node.names])
+
+    def test_no_forbidden_form(self):
+        for node in NODES:
+            self.assertNotIsInstance(node, FORBIDDEN)
+            self.assertNotIsInstance(getattr(node, "value", None), (float, complex))
+            self.assertFalse(getattr(node, "decorator_list", []))
+            if isinstance(node, ast.FunctionDef):
+                self.assertLessEqual(node.end_lineno - node.lineno + 1, 40, node.name)
+            if isinstance(node, ast.arguments):
+                self.assertFalse(node.vararg or node.kwarg or node.posonlyargs)
+
+    def test_names_are_plain_and_pythons_own_keep_their_meaning(self):
+        for node in NODES:
+            for name in bound_names(node):
+                self.assertTrue(name in METHODS or not name.startswith("_"), name)
+            if isinstance(node, ast.Name) and hasattr(builtins, node.id):
+                self.assertIsInstance(node.ctx, ast.Load, node.id)
+                self.assertIn(node.id, OWN_NAMES)
+
+
+if __name__ == "__main__":
+    unittest.main()
