@@ -20,6 +20,12 @@ def places(heap):
     return sorted(set(heap))
 
 
+def place_pairs(heap):
+    """Tell all pairs of unlike places of a heap, each once."""
+    unlike = places(heap)
+    return [(one, other) for at, one in enumerate(unlike) for other in unlike[at + 1:]]
+
+
 def turn(one, two, three):
     """Tell 1 where the third lies left of the way from the first to the second, -1 right, 0 neither."""
     x, y = one

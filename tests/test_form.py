@@ -23,7 +23,8 @@ FORBIDDEN = (
     ast.GeneratorExp, ast.NamedExpr, ast.With, ast.Match, ast.Global, ast.Nonlocal, ast.Yield, ast.YieldFrom,
     ast.AsyncFunctionDef, ast.AsyncFor, ast.AsyncWith, ast.Await, ast.Div, ast.MatMult, ast.Import,
 )
-NODES = [node for path in FILES for node in ast.walk(ast.parse(path.read_text(), path.name))]
+TREES = [ast.parse(path.read_text(), path.name) for path in FILES]
+NODES = [node for tree in TREES for node in ast.walk(tree)]
 METHODS = {"__init__", "__eq__", "__repr__", "__str__", "__len__"}
 
 
@@ -77,6 +78,27 @@ class Form(unittest.TestCase):
                 self.assertLessEqual(node.end_lineno - node.lineno + 1, 40, node.name)
             if isinstance(node, ast.arguments):
                 self.assertFalse(node.vararg or node.kwarg or node.posonlyargs)
+
+    def test_stars_are_given_and_is_stands_beside_none_and_truths(self):
+        for node in NODES:
+            if isinstance(node, ast.Starred):
+                self.assertIsInstance(node.ctx, ast.Store)
+            if isinstance(node, ast.Compare) and isinstance(node.ops[0], (ast.Is, ast.IsNot)):
+                self.assertIn(getattr(node.comparators[0], "value", "no value"), (None, True, False))
+
+    def test_sets_are_sorted_without_a_keyword(self):
+        for node in NODES:
+            if isinstance(node, ast.Call) and isinstance(node.func, ast.Name) and node.func.id == "sorted":
+                first = node.args[0]
+                called = isinstance(first, ast.Call) and getattr(first.func, "id", "") == "set"
+                self.assertFalse(node.keywords and (called or isinstance(first, ast.SetComp)))
+
+    def test_no_name_is_given_that_its_file_draws(self):
+        for tree in TREES:
+            nodes = list(ast.walk(tree))
+            drawn = {part.name for node in nodes if isinstance(node, ast.ImportFrom) for part in node.names}
+            given = {name for node in nodes for name in bound_names(node)}
+            self.assertEqual(drawn & given, set())
 
     def test_names_are_plain_and_pythons_own_keep_their_meaning(self):
         for node in NODES:
