@@ -1,7 +1,7 @@
 """Lines, their sides, and how they divide a heap."""
 
 from halveline.errors import NoLine
-from halveline.wholes import are_whole, common_divisor, sign
+from halveline.wholes import are_whole, common_divisor, is_even_share, sign, sign_counts
 
 
 def is_lead(a, b):
@@ -43,12 +43,9 @@ def side(line, point):
 
 def counts(line, heap):
     """Tell how many points of a heap are below, on and above a line."""
-    sides = [side(line, point) for point in heap]
-    return (sides.count(-1), sides.count(0), sides.count(1))
+    return sign_counts([side(line, point) for point in heap])
 
 
 def halves(line, heap):
     """Tell whether a line has at most half of a heap on either side."""
-    below, on, above = counts(line, heap)
-    many = below + on + above
-    return 2 * below <= many and 2 * above <= many
+    return is_even_share(counts(line, heap))

@@ -34,3 +34,15 @@ def common_divisor(one, other):
     while rest != 0:
         divisor, rest = rest, divisor % rest
     return divisor
+
+
+def sign_counts(signs):
+    """Tell how many of these signs are -1, 0 and 1."""
+    return (signs.count(-1), signs.count(0), signs.count(1))
+
+
+def is_even_share(shares):
+    """Tell whether neither those below nor those above, of three counts, are more than half of all."""
+    below, on, above = shares
+    many = below + on + above
+    return 2 * below <= many and 2 * above <= many

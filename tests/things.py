@@ -61,6 +61,33 @@ def slow_all_lines(one, other):
     return slow_order(line for line in lines if slow_halves(line, one) and slow_halves(line, other))
 
 
+def drawn_cloud(draw, many, reach):
+    """A cloud of so many spots with numbers from -reach to reach, as a random.Random draws them."""
+    return [tuple(draw.randint(-reach, reach) for k in range(3)) for j in range(many)]
+
+
+def is_flat(thing):
+    """Whether a thing is a flat, reckoned apart from the program."""
+    if type(thing) is not tuple or [type(part) for part in thing] != [int] * 4:
+        return False
+    a, b, c, d = thing
+    return gcd(a, b, c) == 1 and (a, b, c) > (0, 0, 0)
+
+
+def slow_flat_halves(flat, cloud):
+    """Whether a flat halves a cloud, reckoned apart from the program."""
+    a, b, c, d = flat
+    less = sum(1 for x, y, z in cloud if a * x + b * y + c * z < d)
+    more = sum(1 for x, y, z in cloud if a * x + b * y + c * z > d)
+    return max(less, more) * 2 <= len(cloud)
+
+
+def slow_aligned(one, two, three):
+    """Whether three spots lie on one line, reckoned apart from the program: their ways stretch one another."""
+    way, other = ([end - start for end, start in zip(spot, one)] for spot in (two, three))
+    return all(way[k] * other[j] == way[j] * other[k] for k, j in ((0, 1), (0, 2), (1, 2)))
+
+
 def odd_things():
     """Things of many kinds that are no point, no heap and no line."""
     return [
