@@ -36,6 +36,21 @@ def common_divisor(one, other):
     return divisor
 
 
+def whole_root(number):
+    """Tell the greatest whole number whose square is not above a number from 0 on."""
+    high = 1
+    while high * high <= number:
+        high = 2 * high
+    low = 0
+    while high - low > 1:
+        half = (low + high) // 2
+        if half * half <= number:
+            low = half
+        else:
+            high = half
+    return low
+
+
 def sign_counts(signs):
     """Tell how many of these signs are -1, 0 and 1."""
     return (signs.count(-1), signs.count(0), signs.count(1))

@@ -1,5 +1,6 @@
 """Things that several tests hand in."""
 
+from fractions import Fraction
 from functools import cmp_to_key
 from itertools import combinations, product
 from math import gcd
@@ -86,6 +87,74 @@ def slow_aligned(one, two, three):
     """Whether three spots lie on one line, reckoned apart from the program: their ways stretch one another."""
     way, other = ([end - start for end, start in zip(spot, one)] for spot in (two, three))
     return all(way[k] * other[j] == way[j] * other[k] for k, j in ((0, 1), (0, 2), (1, 2)))
+
+
+def hull(points):
+    """The cake whose corners are the outermost of these points, reckoned apart from the program."""
+    def half(row):
+        kept = []
+        for x, y in row:
+            while len(kept) > 1:
+                (g, h), (j, k) = kept[-2:]
+                if (j - g) * (y - h) > (k - h) * (x - g):
+                    break
+                kept.pop()
+            kept.append((x, y))
+        return kept[:-1]
+    row = sorted(set(points))
+    return half(row) + half(row[::-1])
+
+
+def drawn_cake(draw, many, reach):
+    """A cake of at most so many corners with numbers from -reach to reach, from any corner on."""
+    cake = []
+    while len(cake) < 3:
+        cake = hull(drawn_heap(draw, many, reach))
+    at = draw.randrange(len(cake))
+    return cake[at:] + cake[:at]
+
+
+def small_cakes():
+    """Cakes of many forms: triangles, alike about their middle, of twelve corners, of long numbers."""
+    ring = [(9, 0), (8, 4), (5, 7), (0, 9), (-4, 8), (-8, 4), (-9, 0), (-8, -4), (-5, -7), (0, -9), (4, -8), (8, -4)]
+    return [
+        [(0, 0), (1, 0), (0, 1)], [(0, 0), (4, 0), (0, 4)], [(0, 0), (5, 2), (-3, 7)], [(-4, 1), (3, -2), (9, 9)],
+        [(0, 0), (4, 0), (4, 4), (0, 4)], [(0, 0), (7, 0), (9, 4), (2, 4)], [(2, 0), (0, 3), (-2, 0), (0, -3)],
+        [(0, 0), (6, 0), (4, 3), (1, 3)], [(0, 0), (4, 0), (6, 3), (3, 7), (-1, 4)], ring,
+        [(BIG * x // 9, BIG * y // 9) for x, y in ring], [(-BIG, -BIG), (BIG, -BIG), (BIG, BIG), (-BIG, BIG)],
+        [(0, 0), (BIG, BIG - 1), (BIG - 1, BIG)], [(-BIG, 0), (0, -BIG), (1, -BIG), (BIG, 1), (2, BIG)],
+    ]
+
+
+def arrows():
+    """Arrows along the axes, of small numbers, and of up to ten figures."""
+    small = [(a, b) for a, b in grid(2) if gcd(a, b) == 1]
+    return small + [(3, -7), (-123456789, 987654322), (999999999, 1000000000), (-9999999999, 1)]
+
+
+def slow_area(corners):
+    """Twice the area of a cake, as a sum of triangles with one common corner."""
+    twice = 0
+    for (g, h), (j, k) in zip(corners[1:], corners[2:]):
+        x, y = corners[0]
+        twice += (g - x) * (k - y) - (h - y) * (j - x)
+    return twice
+
+
+def slow_below(cake, arrow, place):
+    """Twice the part of a cake below a fraction by an arrow: the cake is clipped, side by side."""
+    clipped = []
+    for (g, h), (j, k) in zip(cake, cake[1:] + cake[:1]):
+        start = arrow[0] * g + arrow[1] * h - place
+        end = arrow[0] * j + arrow[1] * k - place
+        if start < 0:
+            clipped.append((g, h))
+        if start < 0 < end or end < 0 < start:
+            part = Fraction(start) / (start - end)
+            clipped.append((g + part * (j - g), h + part * (k - h)))
+        if start == 0:
+            clipped.append((g, h))
+    return slow_area(clipped) if len(clipped) > 2 else 0
 
 
 def odd_things():
