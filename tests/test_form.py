@@ -100,6 +100,30 @@ class Form(unittest.TestCase):
             given = {name for node in nodes for name in bound_names(node)}
             self.assertEqual(drawn & given, set())
 
+    def test_no_name_is_a_method_and_a_value(self):
+        classes = [node for node in NODES if isinstance(node, ast.ClassDef)]
+        methods = {part.name for node in classes for part in node.body if isinstance(part, ast.FunctionDef)}
+        values = {node.attr for node in NODES if isinstance(node, ast.Attribute) and isinstance(node.ctx, ast.Store)}
+        self.assertEqual(methods & values, set())
+        for name in (methods | values) - METHODS:
+            for own in ("", b"", 0, [], (), {}, set()):
+                self.assertFalse(hasattr(own, name), name)
+
+    def test_names_are_drawn_from_the_files_that_define_them_and_in_no_ring(self):
+        defined = {tree_name: {name for node in tree.body for name in bound_names(node)} | {
+            target.id for node in tree.body if isinstance(node, ast.Assign) for target in node.targets
+        } for tree_name, tree in zip([path.stem for path in FILES], TREES)}
+        drawn = {}
+        for path, tree in zip(FILES, TREES):
+            rows = [node for node in tree.body if isinstance(node, ast.ImportFrom)]
+            drawn[path.stem] = {node.module.split(".")[1] for node in rows}
+            for node in rows:
+                self.assertLessEqual({part.name for part in node.names}, defined[node.module.split(".")[1]])
+        while drawn:
+            free = [name for name, others in drawn.items() if not others & set(drawn)]
+            self.assertTrue(free, drawn)
+            drawn = {name: others for name, others in drawn.items() if name not in free}
+
     def test_names_are_plain_and_pythons_own_keep_their_meaning(self):
         for node in NODES:
             for name in bound_names(node):
